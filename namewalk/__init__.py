@@ -1,0 +1,1 @@
+"""Namewalk: where path names lead while the tree of names changes."""

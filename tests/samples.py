@@ -1,0 +1,31 @@
+"""Values that the tests hand in where something else is expected."""
+
+from namewalk.errors import NoPath
+from namewalk.paths import Path
+from namewalk.trees import File, Folder, Gone, Link, Tree
+
+INTERFACE_OBJECTS = [
+    Path(("a",), False, False), Folder(0, []), File(0), Link(0, "a"), Gone(0, 0),
+    Tree([Folder(0, [])]), NoPath(),
+]
+
+# Of built-in types, but neither a number nor a string.
+NEITHER = [
+    None, True, False, 0.0, 1.0, float("nan"), 1j, b"", b"a", bytearray(b"a"), [], ["a"], (), ("a",), (1,),
+    {}, {"a": 1}, set(), {1}, frozenset(), range(1), Ellipsis, NotImplemented, int, len, object(),
+    slice(1), memoryview(b"a"), iter([]), lambda: 1, ValueError("a"),
+] + INTERFACE_OBJECTS
+
+NO_NUMBERS = NEITHER + ["", "0", "1", "a"]
+NO_STRINGS = NEITHER + [0, 1, -1, 10 ** 30]
+NO_OWNERS = NO_NUMBERS + [-1, -10 ** 30]
+
+GOOD_NAMES = [
+    "a", "z", "0", "9", "_", "-", "...", "....", ".a", "a.", "..a", "a..", ".-", "a.b-c_d", "abcdefghijkl",
+    "............", "012345678901",
+]
+BAD_NAMES = [
+    "", ".", "..", "A", "aB", "a b", " a", "a ", "a/b", "/", "a/", "abcdefghijklm", "a" * 1000, "a\n", "\n", "a\x00",
+    "a:", "a~", "a=1", "a+b", "a,b", "a;b", "a*", "a?", "\\", "\u00e4", "\u00df", "\u0661", "\u00b2", "\uff41",
+    "a\ud800", "a\u0301",
+]
