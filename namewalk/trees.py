@@ -161,6 +161,13 @@ def check_node(tree, node):
         raise NoNode(node)
 
 
+def check_place(tree, place):
+    """Raise NoNode unless a walk can stand at the place."""
+    check_node(tree, place)
+    if not isinstance(tree.nodes[place], (Folder, Gone)):
+        raise NoNode(place)
+
+
 def above(tree, node):
     """The folder in which a folder stands or stood last, or None for files and links."""
     check_node(tree, node)

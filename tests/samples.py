@@ -1,12 +1,17 @@
 """Values that the tests hand in where something else is expected."""
 
-from namewalk.errors import NoPath
+from namewalk.deeds import MakeFile, MakeFolder, MakeLink, Move, Put, Take
+from namewalk.errors import NoNode, NoPath
 from namewalk.paths import Path
 from namewalk.trees import File, Folder, Gone, Link, Tree
+from namewalk.walking import Came, Look, Refused
+from namewalk.weavings import Outcome
 
 INTERFACE_OBJECTS = [
     Path(("a",), False, False), Folder(0, []), File(0), Link(0, "a"), Gone(0, 0),
-    Tree([Folder(0, [])]), NoPath(),
+    Tree([Folder(0, [])]), NoPath(), NoNode(1), Look(False, False, None), Came(1), Refused("none"),
+    MakeFolder(0, "a", 0), MakeFile(0, "a", 0), MakeLink(0, "a", 0, "a"), Put(0, "a", 1), Take(0, "a"),
+    Move(0, "a", 0, "b"), Outcome(Came(1), 1, (), ()),
 ]
 
 # Of built-in types, but neither a number nor a string.

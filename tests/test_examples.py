@@ -2,9 +2,12 @@
 
 import unittest
 
-from namewalk.errors import BadText, NoPath, NoTree
+from namewalk.deeds import MakeFile, Move, done
+from namewalk.errors import BadText, NoDeed, NoPath, NoTree
 from namewalk.paths import Path, path_text, read_path
-from namewalk.trees import File, Folder, Tree, above, entries_of
+from namewalk.trees import File, Folder, Link, Tree, above, entries_of
+from namewalk.walking import Look, stands, walk
+from namewalk.weavings import accepts, results, unexplained
 
 
 class ExamplesTest(unittest.TestCase):
@@ -32,6 +35,44 @@ class ExamplesTest(unittest.TestCase):
     def test_above_and_entries(self):
         tree = Tree([Folder(0, [('a', 1), ('f', 2)]), Folder(1, [('b', 3)]), File(0), File(1)])
         self.assertEqual((above(tree, 1), above(tree, 2), entries_of(tree, 3)), (0, None, [(1, 'b')]))
+
+    def test_walks(self):
+        tree = Tree([Folder(0, [('a', 1), ('f', 2)]), Folder(1, [('b', 3)]), File(0), File(1)])
+        look = Look(False, False, None)
+        found = (walk(tree, 0, read_path('a/b'), look).node, walk(tree, 0, read_path('f/b'), look).why,
+                 stands(tree, 1, read_path('../a'), look))
+        self.assertEqual(found, (3, 'file', [1, 0, 1]))
+
+    def test_links(self):
+        tree = Tree([Folder(0, [('d', 1), ('l', 2)]), Folder(0, [('x', 3)]), Link(0, 'd'), File(0)])
+        found = (walk(tree, 0, read_path('l/x'), Look(True, False, None)).node,
+                 walk(tree, 0, read_path('l'), Look(True, False, None)).node,
+                 walk(tree, 0, read_path('l/'), Look(True, False, None)).node)
+        self.assertEqual(found, (3, 2, 1))
+
+    def test_no_deed(self):
+        tree = Tree([Folder(0, [('a', 1)]), Folder(0, [('b', 2), ('c', 3)]), Folder(0, []), File(0)])
+        with self.assertRaises(NoDeed) as caught:
+            done(tree, Move(0, 'a', 2, 'd'))
+        self.assertEqual(caught.exception.why, 'below')
+
+    def test_results(self):
+        """The document's example tells the results by their texts, which are not there yet."""
+        tree = Tree([Folder(0, [('a', 1)]), Folder(0, [])])
+        deeds = [Move(0, 'a', 0, 'c'), MakeFile(1, 'b', 0)]
+        look = Look(False, False, None)
+        found = [(vars(one.result), one.count, one.first, one.last)
+                 for one in results(tree, deeds, 0, read_path('a/b'), look)]
+        self.assertEqual(found, [({'why': 'none'}, 4, (0, 0), (2,)), ({'node': 2}, 1, (0, 2), (0, 2))])
+
+    def test_unexplained_and_accepts(self):
+        tree = Tree([Folder(0, [('a', 1)]), Folder(0, [])])
+        deeds = [Move(0, 'a', 0, 'c'), MakeFile(1, 'b', 0)]
+        look = Look(False, False, None)
+        path = read_path('a/b')
+        found = ([result.node for result in unexplained(tree, deeds, 0, path, look)],
+                 accepts(tree, deeds, 0, path, look, (0, 2), (2, 2)))
+        self.assertEqual(found, ([2], False))
 
 
 if __name__ == "__main__":

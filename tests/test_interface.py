@@ -3,7 +3,7 @@
 import inspect
 import unittest
 
-from namewalk import errors, paths, trees
+from namewalk import deeds, errors, paths, trees, walking, weavings
 
 FIELDS = {
     errors.NoTree: ["why", "node"], errors.NoNode: ["node"], errors.BadText: ["place"],
@@ -11,11 +11,22 @@ FIELDS = {
     errors.Large: ["count"], paths.Path: ["steps", "absolute", "folder"],
     trees.Folder: ["owner", "entries"], trees.File: ["owner"], trees.Link: ["owner", "text"],
     trees.Gone: ["owner", "above"], trees.Tree: ["nodes"],
+    walking.Look: ["follow", "last", "owners"], walking.Came: ["node"], walking.Refused: ["why"],
+    deeds.MakeFolder: ["folder", "name", "owner"], deeds.MakeFile: ["folder", "name", "owner"],
+    deeds.MakeLink: ["folder", "name", "owner", "text"], deeds.Put: ["folder", "name", "node"],
+    deeds.Take: ["folder", "name"], deeds.Move: ["folder", "name", "goal", "other"],
+    weavings.Outcome: ["result", "count", "first", "last"],
 }
+
+WALK = ["tree", "place", "path", "look"]
+WOVEN = ["tree", "deeds", "place", "path", "look"]
 
 FUNCTIONS = {
     paths.read_path: ["text"], paths.path_text: ["path"], trees.above: ["tree", "node"],
     trees.entries_of: ["tree", "node"], trees.alike: ["one", "other"],
+    walking.walk: WALK, walking.stands: WALK, deeds.done: ["tree", "deed"], deeds.trees: ["tree", "deeds"],
+    weavings.led_by: WOVEN + ["weaving"], weavings.results: WOVEN, weavings.moments: WOVEN + ["result"],
+    weavings.unexplained: WOVEN, weavings.accepts: WOVEN + ["weaving", "again"],
 }
 
 
@@ -33,6 +44,9 @@ class InterfaceTest(unittest.TestCase):
                      "Forbidden NoBack"),
             (paths, "Path read_path path_text"),
             (trees, "Folder File Link Gone Tree above entries_of alike"),
+            (walking, "Look Came Refused walk stands"),
+            (deeds, "MakeFolder MakeFile MakeLink Put Take Move done trees"),
+            (weavings, "Outcome led_by results moments unexplained accepts"),
         ):
             for name in names.split():
                 with self.subTest(name):
@@ -54,6 +68,33 @@ class InterfaceTest(unittest.TestCase):
         self.assertEqual(trees.above(node=0, tree=tree), 0)
         self.assertEqual(trees.entries_of(node=1, tree=tree), [(0, "f")])
         self.assertIs(trees.alike(other=tree, one=tree), True)
+
+    def test_walks_and_weavings_by_keyword(self):
+        tree = trees.Tree([trees.Folder(0, [("f", 1)]), trees.File(0)])
+        look = walking.Look(owners=[0], last=True, follow=False)
+        self.assertEqual((look.follow, look.last, look.owners), (False, True, (0,)))
+        came = walking.Came(node=1)
+        asked = {"look": look, "path": paths.read_path("f"), "place": 0, "tree": tree}
+        self.assertEqual(walking.walk(**asked), came)
+        self.assertEqual(walking.stands(**asked), [0, 1])
+        take = deeds.Take(name="f", folder=0)
+        asked["deeds"] = [take]
+        self.assertEqual(weavings.led_by(weaving=(0,), **asked), came)
+        self.assertEqual(weavings.results(**asked)[0], weavings.Outcome(last=(0,), first=(0,), count=1, result=came))
+        self.assertEqual(weavings.moments(result=walking.Refused(why="none"), **asked), [1])
+        self.assertEqual(weavings.unexplained(**asked), [])
+        self.assertIs(weavings.accepts(again=[1], weaving=[0], **asked), False)
+
+    def test_deeds_by_keyword(self):
+        tree = trees.Tree([trees.Folder(0, [("f", 1)]), trees.File(0)])
+        row = [deeds.MakeFolder(owner=1, name="d", folder=0), deeds.MakeFile(owner=2, name="g", folder=2),
+               deeds.MakeLink(text="d", owner=3, name="l", folder=0), deeds.Put(node=1, name="p", folder=2),
+               deeds.Move(other="m", goal=2, name="f", folder=0), deeds.Take(name="m", folder=2)]
+        after = deeds.trees(deeds=row, tree=tree)
+        self.assertEqual(after[-1], trees.Tree([
+            trees.Folder(0, [("d", 2), ("l", 4)]), trees.File(0), trees.Folder(1, [("g", 3), ("p", 1)]), trees.File(2),
+            trees.Link(3, "d")]))
+        self.assertEqual(deeds.done(deed=row[0], tree=tree), after[1])
 
 
 if __name__ == "__main__":
