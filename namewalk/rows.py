@@ -1,14 +1,12 @@
-"""Rows of deeds, and what goes on by looks while they are done.
-
-What goes on (a walk, a listing, a climb) is an object whose result is None as
-long as it is not at its end, and whose looked(view) returns it after one look.
-"""
+"""Rows of deeds, and what goes on by looks while they are done."""
 
 from namewalk.deeds import trees
-from namewalk.errors import NoWeaving
+from namewalk.errors import Large, NoWeaving
 from namewalk.kinds import is_number
 from namewalk.trees import check_place
 from namewalk.views import View
+
+MOST_WEAVINGS = 5000
 
 
 def views_of(tree, deeds, place):
@@ -30,7 +28,7 @@ def is_weaving(numbers, least, most):
 
 
 def played(views, going, weaving):
-    """What going comes to if its looks see the views whose numbers the weaving tells."""
+    """What comes of something that goes on if its looks see the views whose numbers the weaving tells."""
     if not is_weaving(weaving, 0, len(views) - 1):
         raise NoWeaving()
     for number in weaving:
@@ -40,3 +38,19 @@ def played(views, going, weaving):
     if going.result is None:
         raise NoWeaving()
     return going.result
+
+
+def all_played(views, going):
+    """What comes of something that goes on by all weavings, once for each; Large if there are too many."""
+    found = []
+    waiting = [(going, 0)]
+    while waiting:
+        present, least = waiting.pop()
+        if present.result is None:
+            waiting.extend([(present.looked(views[number]), number) for number in range(least, len(views))])
+        else:
+            found.append(present.result)
+            # Each one under way has an end, so that this counts no weaving too many.
+            if len(found) > MOST_WEAVINGS:
+                raise Large(MOST_WEAVINGS + 1)
+    return found

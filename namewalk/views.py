@@ -1,4 +1,8 @@
-"""Views: trees that are made ready for many looks."""
+"""Views: trees that are made ready for many looks, and what goes on by looks.
+
+What goes on (a walk, a listing, a climb) is an object whose result is None as
+long as it is not at its end, and whose looked(view) returns it after one look.
+"""
 
 from namewalk.paths import read_path
 from namewalk.trees import ROOT, Folder, Gone, Link
@@ -40,3 +44,10 @@ def folder_homes(nodes):
                 if isinstance(nodes[inner], Folder):
                     found[inner] = (number, name)
     return found
+
+
+def ended_in(view, going):
+    """What comes of something that goes on if all its looks see the same tree."""
+    while going.result is None:
+        going = going.looked(view)
+    return going.result

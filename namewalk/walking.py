@@ -3,7 +3,7 @@
 from namewalk.errors import NoOwner
 from namewalk.kinds import is_owner
 from namewalk.trees import ROOT, File, Link, check_place
-from namewalk.views import View
+from namewalk.views import View, ended_in
 
 MOST_LINKS = 8
 
@@ -114,16 +114,9 @@ def begun(place, path, look):
     return Going(look, beginning(place, path), path.steps, path.folder, 0)
 
 
-def walk_in(view, going):
-    """The result of a walk whose looks all see the same tree."""
-    while going.result is None:
-        going = going.looked(view)
-    return going.result
-
-
 def walk(tree, place, path, look):
     check_place(tree, place)
-    return walk_in(View(tree), begun(place, path, look))
+    return ended_in(View(tree), begun(place, path, look))
 
 
 def stands(tree, place, path, look):

@@ -2,7 +2,8 @@
 
 from namewalk.errors import NoWeaving
 from namewalk.rows import is_weaving, played, views_of
-from namewalk.walking import begun, walk_in
+from namewalk.views import ended_in
+from namewalk.walking import begun
 
 
 class Outcome:
@@ -128,14 +129,14 @@ def moments(tree, deeds, place, path, look, result):
     """The numbers of deeds after which the whole walk has the result."""
     views = views_of(tree, deeds, place)
     going = begun(place, path, look)
-    return [number for number, view in enumerate(views) if walk_in(view, going) == result]
+    return [number for number, view in enumerate(views) if ended_in(view, going) == result]
 
 
 def unexplained(tree, deeds, place, path, look):
     """The results that no whole walk in one of the trees has."""
     views = views_of(tree, deeds, place)
     going = begun(place, path, look)
-    explained = [walk_in(view, going) for view in views]
+    explained = [ended_in(view, going) for view in views]
     found = [one.result for one in results(tree, deeds, place, path, look)]
     return [result for result in found if result not in explained]
 

@@ -97,5 +97,14 @@ def draw_row(rng, tree, many, names="abc", owners=2, kinds=(MakeFile, MakeFolder
     return row
 
 
+def takes_folders(tree, row, kinds=(Move, Take)):
+    """Whether a deed of one of these kinds takes a folder from its entry."""
+    for deed in row:
+        if isinstance(deed, kinds) and isinstance(tree.nodes[dict(tree.nodes[deed.folder].entries)[deed.name]], Folder):
+            return True
+        tree = done(tree, deed)
+    return False
+
+
 def places(tree):
     return [number for number, node in enumerate(tree.nodes) if isinstance(node, (Folder, Gone))]

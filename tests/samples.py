@@ -2,7 +2,9 @@
 
 from namewalk.deeds import MakeFile, MakeFolder, MakeLink, Move, Put, Take
 from namewalk.errors import NoNode, NoPath
+from namewalk.others import Others
 from namewalk.paths import Path
+from namewalk.reaching import New
 from namewalk.trees import File, Folder, Gone, Link, Tree
 from namewalk.walking import Came, Look, Refused
 from namewalk.weavings import Outcome
@@ -11,7 +13,7 @@ INTERFACE_OBJECTS = [
     Path(("a",), False, False), Folder(0, []), File(0), Link(0, "a"), Gone(0, 0),
     Tree([Folder(0, [])]), NoPath(), NoNode(1), Look(False, False, None), Came(1), Refused("none"),
     MakeFolder(0, "a", 0), MakeFile(0, "a", 0), MakeLink(0, "a", 0, "a"), Put(0, "a", 1), Take(0, "a"),
-    Move(0, "a", 0, "b"), Outcome(Came(1), 1, (), ()),
+    Move(0, "a", 0, "b"), Outcome(Came(1), 1, (), ()), Others(0, [0]), New("file"),
 ]
 
 # Of built-in types, but neither a number nor a string.

@@ -2,9 +2,13 @@
 
 import unittest
 
-from namewalk.deeds import MakeFile, Move, done
+from namewalk.climbing import climb
+from namewalk.deeds import MakeFile, Move, Take, done
 from namewalk.errors import BadText, NoDeed, NoPath, NoTree
+from namewalk.listings import listing
+from namewalk.others import Others, arrangements, loose, pieces
 from namewalk.paths import Path, path_text, read_path
+from namewalk.reaching import reach, touched
 from namewalk.trees import File, Folder, Link, Tree, above, entries_of
 from namewalk.walking import Look, stands, walk
 from namewalk.weavings import accepts, results, unexplained
@@ -73,6 +77,32 @@ class ExamplesTest(unittest.TestCase):
         found = ([result.node for result in unexplained(tree, deeds, 0, path, look)],
                  accepts(tree, deeds, 0, path, look, (0, 2), (2, 2)))
         self.assertEqual(found, ([2], False))
+
+    def test_climb(self):
+        tree = Tree([Folder(0, [('p', 1)]), Folder(0, [('x', 2)]), Folder(0, [])])
+        self.assertEqual(climb(tree, [Move(1, 'x', 0, 'z'), Move(0, 'p', 0, 'q')], 2, (0, 2)), '/q/x')
+
+    def test_listing(self):
+        tree = Tree([Folder(0, [('a', 1), ('f', 2)]), Folder(1, [('b', 3)]), File(0), File(1)])
+        found = (listing(tree, [Take(1, 'b')], 0, (0, 0)), listing(tree, [Take(1, 'b')], 0, (0, 1)))
+        self.assertEqual(found, ([1, 3, 2], [1, 2]))
+
+    def test_others(self):
+        tree = Tree([Folder(0, [('a', 1)]), Folder(0, [('b', 2), ('c', 3)]), Folder(0, []), File(0)])
+        others = Others(5, [1, 2])
+        found = (loose(tree, others), pieces(tree, others), arrangements(tree, others))
+        self.assertEqual(found, ([2, 3], [[0, 1], [2]], 2))
+
+    def test_reach(self):
+        """The document's example tells the results by their texts, which are not there yet."""
+        tree = Tree([Folder(0, [('a', 1)]), Folder(0, [('b', 2), ('c', 3)]), Folder(0, []), File(0)])
+        others = Others(5, [1, 2])
+        look = Look(False, False, None)
+        path = read_path('a/b')
+        found = [vars(result) for result in reach(tree, others, 0, path, look)]
+        self.assertEqual(found, [{'node': 2}, {'node': 3}, {'kind': 'folder'}, {'kind': 'file'}, {'kind': 'link'},
+                                 {'why': 'none'}])
+        self.assertEqual(touched(tree, others, 0, path, look), [1])
 
 
 if __name__ == "__main__":

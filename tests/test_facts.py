@@ -8,7 +8,7 @@ from namewalk.paths import Path, read_path
 from namewalk.trees import File, Folder, Tree
 from namewalk.walking import Came, Look
 from namewalk.weavings import accepts, led_by, results, unexplained
-from tests.drawn import draw_path, draw_row, draw_tree, generator, places
+from tests.drawn import draw_path, draw_row, draw_tree, generator, places, takes_folders
 from tests.plain import plain, plain_led, tuples
 
 LOOKS = [Look(False, False, None), Look(False, True, None), Look(False, False, [0]), Look(False, False, [1])]
@@ -16,14 +16,6 @@ LOOKS = [Look(False, False, None), Look(False, True, None), Look(False, False, [
 
 def chain():
     return Tree([Folder(0, [("a", 1)]), Folder(0, [("a", 2)]), Folder(1, [("b", 3)]), Folder(0, [])])
-
-
-def moves_a_folder(tree, row):
-    for before, deed in zip(trees(tree, row), row):
-        if isinstance(deed, Move):
-            if isinstance(before.nodes[dict(before.nodes[deed.folder].entries)[deed.name]], Folder):
-                return True
-    return False
 
 
 def remakes(tree, row):
@@ -73,7 +65,7 @@ class ExplainedTest(unittest.TestCase):
         for _ in range(400):
             tree = draw_tree(rng, rng.randint(2, 7), names="ab", kinds="dddlfg")
             row = draw_row(rng, tree, 8, names="ab", kinds=some if rng.random() < 0.5 else some + (Move,))
-            if not moves_a_folder(tree, row):
+            if not takes_folders(tree, row, (Move,)):
                 path, place = draw_path(rng, 4, names="ab", up=False), rng.choice(places(tree))
                 for look in LOOKS:
                     self.assertEqual(unexplained(tree, row, place, path, look), [])

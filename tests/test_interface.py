@@ -3,7 +3,7 @@
 import inspect
 import unittest
 
-from namewalk import deeds, errors, paths, trees, walking, weavings
+from namewalk import climbing, deeds, errors, listings, others, paths, reaching, trees, walking, weavings
 
 FIELDS = {
     errors.NoTree: ["why", "node"], errors.NoNode: ["node"], errors.BadText: ["place"],
@@ -16,10 +16,12 @@ FIELDS = {
     deeds.MakeLink: ["folder", "name", "owner", "text"], deeds.Put: ["folder", "name", "node"],
     deeds.Take: ["folder", "name"], deeds.Move: ["folder", "name", "goal", "other"],
     weavings.Outcome: ["result", "count", "first", "last"],
+    others.Others: ["owner", "folders"], reaching.New: ["kind"],
 }
 
 WALK = ["tree", "place", "path", "look"]
 WOVEN = ["tree", "deeds", "place", "path", "look"]
+REACHED = ["tree", "others", "place", "path", "look"]
 
 FUNCTIONS = {
     paths.read_path: ["text"], paths.path_text: ["path"], trees.above: ["tree", "node"],
@@ -27,6 +29,10 @@ FUNCTIONS = {
     walking.walk: WALK, walking.stands: WALK, deeds.done: ["tree", "deed"], deeds.trees: ["tree", "deeds"],
     weavings.led_by: WOVEN + ["weaving"], weavings.results: WOVEN, weavings.moments: WOVEN + ["result"],
     weavings.unexplained: WOVEN, weavings.accepts: WOVEN + ["weaving", "again"],
+    listings.listing: ["tree", "deeds", "place", "weaving"], listings.listings: ["tree", "deeds", "place"],
+    climbing.climb: ["tree", "deeds", "place", "weaving"], climbing.climbs: ["tree", "deeds", "place"],
+    others.may: ["tree", "others", "deed"], others.loose: ["tree", "others"], others.pieces: ["tree", "others"],
+    others.arrangements: ["tree", "others"], reaching.reach: REACHED, reaching.touched: REACHED,
 }
 
 
@@ -47,6 +53,8 @@ class InterfaceTest(unittest.TestCase):
             (walking, "Look Came Refused walk stands"),
             (deeds, "MakeFolder MakeFile MakeLink Put Take Move done trees"),
             (weavings, "Outcome led_by results moments unexplained accepts"),
+            (listings, "listing listings"), (climbing, "climb climbs"),
+            (others, "Others may loose pieces arrangements"), (reaching, "New reach touched"),
         ):
             for name in names.split():
                 with self.subTest(name):
@@ -84,6 +92,27 @@ class InterfaceTest(unittest.TestCase):
         self.assertEqual(weavings.moments(result=walking.Refused(why="none"), **asked), [1])
         self.assertEqual(weavings.unexplained(**asked), [])
         self.assertIs(weavings.accepts(again=[1], weaving=[0], **asked), False)
+
+    def test_listings_and_climbs_by_keyword(self):
+        tree = trees.Tree([trees.Folder(0, [("d", 1)]), trees.Folder(0, [])])
+        asked = {"place": 1, "deeds": [deeds.Take(0, "d")], "tree": tree}
+        self.assertEqual(listings.listing(weaving=(1,), **asked), [])
+        self.assertEqual(listings.listings(**asked), [([], 2)])
+        self.assertEqual(climbing.climb(weaving=[0], **asked), "/d")
+        self.assertEqual(climbing.climbs(**asked), [("/d", 1, True), (walking.Refused("gone"), 1, True)])
+
+    def test_others_by_keyword(self):
+        tree = trees.Tree([trees.Folder(0, [("d", 1)]), trees.Folder(0, [("e", 2)]), trees.Folder(0, [])])
+        asked = {"others": others.Others(folders=[2, 1], owner=3), "tree": tree}
+        self.assertEqual((asked["others"].owner, asked["others"].folders), (3, (2, 1)))
+        self.assertIs(others.may(deed=deeds.Take(1, "e"), **asked), True)
+        self.assertEqual(others.loose(**asked), [2])
+        self.assertEqual(others.pieces(**asked), [[0, 1], [2]])
+        self.assertEqual(others.arrangements(**asked), 1)
+        asked.update(look=walking.Look(False, False, [3]), path=paths.read_path("d/e/.."), place=0)
+        self.assertEqual(reaching.reach(**asked), [walking.Refused("owner")])
+        self.assertEqual(reaching.touched(**asked), [])
+        self.assertEqual(reaching.New(kind="file").kind, "file")
 
     def test_deeds_by_keyword(self):
         tree = trees.Tree([trees.Folder(0, [("f", 1)]), trees.File(0)])

@@ -212,8 +212,8 @@ class OutcomeTest(unittest.TestCase):
         self.assertEqual((one.first, one.last), ((0,), (1,)))
 
     def test_equality(self):
-        ones = [Outcome(Came(1), 3, (0,), (1,)), Outcome(Came(2), 3, (0,), (1,)), Outcome(Refused("none"), 3, (0,), (1,)),
-                Outcome(Came(1), 4, (0,), (1,)), Outcome(Came(1), 3, (), (1,)), Outcome(Came(1), 3, (0,), (0,))]
+        ones = [Outcome(Came(1), 3, (0,), (1,)), Outcome(Came(2), 3, (0,), (1,)),
+                Outcome(Refused("none"), 3, (0,), (1,)), Outcome(Came(1), 4, (0,), (1,)), Outcome(Came(1), 3, (), (1,)), Outcome(Came(1), 3, (0,), (0,))]
         for i, one in enumerate(ones):
             for j, other in enumerate(ones):
                 self.assertIs(one == other, i == j)
