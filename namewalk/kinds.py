@@ -19,3 +19,11 @@ def is_name(value):
     if value in (".", ".."):
         return False
     return all([letter in NAME_LETTERS for letter in value])
+
+
+def unused_name(taken):
+    """A name that is none of those that are taken."""
+    number = 0
+    while f"n{number}" in taken:
+        number += 1
+    return f"n{number}"

@@ -63,7 +63,10 @@ class PlainReach:
         return self.others.owner if number in NEW.values() else self.tree.nodes[number].owner
 
     def begin(self, place, path):
-        waiting = [(0 if path.absolute else place, path.steps, path.folder, 0)]
+        return self.go_on(0 if path.absolute else place, path.steps, path.folder, 0)
+
+    def go_on(self, at, steps, wants, links):
+        waiting = [(at, tuple(steps), wants, links)]
         seen = set(waiting)
         while waiting:
             for state in self.after(*waiting.pop()):
@@ -126,9 +129,12 @@ class PlainReach:
         self.results.add(why)
         return []
 
-    def ordered(self):
+    def ordered(self, old=None):
+        """The results in their order; nodes from the number old on are new ones."""
+        old = len(self.tree.nodes) if old is None else old
         numbers = sorted(one for one in self.results if isinstance(one, int))
-        return numbers + [one for one in list(NEW.values()) + WORDS if one in self.results]
+        found = self.results | {"new " + self.kind(number) for number in numbers if number >= old}
+        return [one for one in numbers if one < old] + [one for one in list(NEW.values()) + WORDS if one in found]
 
 
 class Tried:

@@ -1,9 +1,11 @@
-"""Values that the tests hand in where something else is expected."""
+"""Values that the tests hand in where something else is expected, and a tree with others."""
 
+from namewalk.certificates import Certificate
 from namewalk.deeds import MakeFile, MakeFolder, MakeLink, Move, Put, Take
 from namewalk.errors import NoNode, NoPath
 from namewalk.others import Others
 from namewalk.paths import Path
+from namewalk.processes import Done, Find, Made, Make, Process, Remove, Shift
 from namewalk.reaching import New
 from namewalk.trees import File, Folder, Gone, Link, Tree
 from namewalk.walking import Came, Look, Refused
@@ -13,7 +15,10 @@ INTERFACE_OBJECTS = [
     Path(("a",), False, False), Folder(0, []), File(0), Link(0, "a"), Gone(0, 0),
     Tree([Folder(0, [])]), NoPath(), NoNode(1), Look(False, False, None), Came(1), Refused("none"),
     MakeFolder(0, "a", 0), MakeFile(0, "a", 0), MakeLink(0, "a", 0, "a"), Put(0, "a", 1), Take(0, "a"),
-    Move(0, "a", 0, "b"), Outcome(Came(1), 1, (), ()), Others(0, [0]), New("file"),
+    Move(0, "a", 0, "b"), Outcome(Came(1), 1, (), ()), Others(0, [0]), New("file"), Certificate(["look"]),
+    Find(Path(("a",), False, False)), Make("file", Path(("a",), False, False)), Remove(Path(("a",), False, False)),
+    Shift(Path(("a",), False, False), Path(("b",), False, False)), Process(0, Look(False, False, None), 0, []), Done(),
+    Made(0, 1),
 ]
 
 # Of built-in types, but neither a number nor a string.
@@ -36,3 +41,26 @@ BAD_NAMES = [
     "a:", "a~", "a=1", "a+b", "a,b", "a;b", "a*", "a?", "\\", "\u00e4", "\u00df", "\u0661", "\u00b2", "\uff41",
     "a\ud800", "a\u0301",
 ]
+
+
+def sample():
+    """Folders 1, 2 and 6 are theirs below: 2 stands in 1, 6 in 3, which is another's in 1."""
+    return Tree([
+        Folder(0, [("a", 1), ("f", 4), ("o", 9)]),
+        Folder(1, [("b", 2), ("c", 3), ("g", 5)]),
+        Folder(2, []),
+        Folder(3, [("d", 6)]),
+        File(0),
+        File(5),
+        Folder(6, [("e", 7)]),
+        Folder(7, []),
+        Gone(8, 2),
+        Folder(9, [("h", 10), ("i", 5)]),
+        File(5),
+        Gone(5, 8),
+        File(5),
+    ])
+
+
+# The loose nodes are 2 and 5; the files 10 and 12 are theirs, too.
+THEIRS = Others(5, [1, 2, 6])

@@ -5,12 +5,13 @@ import unittest
 from namewalk.climbing import climb
 from namewalk.deeds import MakeFile, Move, Take, done
 from namewalk.errors import BadText, NoDeed, NoPath, NoTree
+from namewalk.guarding import guards
 from namewalk.listings import listing
 from namewalk.others import Others, arrangements, loose, pieces
 from namewalk.paths import Path, path_text, read_path
 from namewalk.reaching import reach, touched
 from namewalk.trees import File, Folder, Link, Tree, above, entries_of
-from namewalk.walking import Look, stands, walk
+from namewalk.walking import Came, Look, stands, walk
 from namewalk.weavings import accepts, results, unexplained
 
 
@@ -103,6 +104,11 @@ class ExamplesTest(unittest.TestCase):
         self.assertEqual(found, [{'node': 2}, {'node': 3}, {'kind': 'folder'}, {'kind': 'file'}, {'kind': 'link'},
                                  {'why': 'none'}])
         self.assertEqual(touched(tree, others, 0, path, look), [1])
+
+    def test_guards(self):
+        tree = Tree([Folder(0, [('a', 1)]), Folder(0, [('b', 2), ('c', 3)]), Folder(0, []), File(0)])
+        look = Look(False, False, None)
+        self.assertEqual(guards(tree, Others(5, [1, 2]), 0, read_path('a/b'), look, [Came(2)]), [1])
 
 
 if __name__ == "__main__":

@@ -3,7 +3,10 @@
 import inspect
 import unittest
 
-from namewalk import climbing, deeds, errors, listings, others, paths, reaching, trees, walking, weavings
+from namewalk import (
+    certificates, climbing, deeds, errors, guarding, listings, others, paths, processes, reaching, trees, walking,
+    weavings,
+)
 
 FIELDS = {
     errors.NoTree: ["why", "node"], errors.NoNode: ["node"], errors.BadText: ["place"],
@@ -16,7 +19,10 @@ FIELDS = {
     deeds.MakeLink: ["folder", "name", "owner", "text"], deeds.Put: ["folder", "name", "node"],
     deeds.Take: ["folder", "name"], deeds.Move: ["folder", "name", "goal", "other"],
     weavings.Outcome: ["result", "count", "first", "last"],
-    others.Others: ["owner", "folders"], reaching.New: ["kind"],
+    others.Others: ["owner", "folders"], reaching.New: ["kind"], certificates.Certificate: ["parts"],
+    processes.Find: ["path"], processes.Make: ["kind", "path"], processes.Remove: ["path"],
+    processes.Shift: ["path", "other"], processes.Process: ["place", "look", "owner", "calls"],
+    processes.Made: ["process", "call"],
 }
 
 WALK = ["tree", "place", "path", "look"]
@@ -33,6 +39,8 @@ FUNCTIONS = {
     climbing.climb: ["tree", "deeds", "place", "weaving"], climbing.climbs: ["tree", "deeds", "place"],
     others.may: ["tree", "others", "deed"], others.loose: ["tree", "others"], others.pieces: ["tree", "others"],
     others.arrangements: ["tree", "others"], reaching.reach: REACHED, reaching.touched: REACHED,
+    certificates.certificate: REACHED + ["result"], certificates.holds: REACHED + ["result", "certificate"],
+    guarding.guards: REACHED + ["allowed"],
 }
 
 
@@ -55,6 +63,8 @@ class InterfaceTest(unittest.TestCase):
             (weavings, "Outcome led_by results moments unexplained accepts"),
             (listings, "listing listings"), (climbing, "climb climbs"),
             (others, "Others may loose pieces arrangements"), (reaching, "New reach touched"),
+            (certificates, "Certificate certificate holds"), (guarding, "guards"),
+            (processes, "Find Make Remove Shift Process Done Made"),
         ):
             for name in names.split():
                 with self.subTest(name):
@@ -124,6 +134,16 @@ class InterfaceTest(unittest.TestCase):
             trees.Folder(0, [("d", 2), ("l", 4)]), trees.File(0), trees.Folder(1, [("g", 3), ("p", 1)]), trees.File(2),
             trees.Link(3, "d")]))
         self.assertEqual(deeds.done(deed=row[0], tree=tree), after[1])
+
+
+    def test_certificates_and_guards_by_keyword(self):
+        tree = trees.Tree([trees.Folder(0, [("d", 1)]), trees.Folder(0, [("e", 2)]), trees.Folder(0, [])])
+        asked = {"look": walking.Look(False, False, None), "path": paths.read_path("d/e"), "place": 0,
+                 "others": others.Others(3, [1]), "tree": tree}
+        found = certificates.certificate(result=walking.Came(2), **asked)
+        self.assertEqual(found, certificates.Certificate(parts=["look", "look"]))
+        self.assertIs(certificates.holds(certificate=found, result=walking.Came(2), **asked), True)
+        self.assertEqual(guarding.guards(allowed=[walking.Came(2)], **asked), [1])
 
 
 if __name__ == "__main__":

@@ -8,6 +8,7 @@ from namewalk.errors import NoDeed, NoNode, NoOwner
 from namewalk.others import Others, arrangements, loose, may, pieces
 from namewalk.trees import File, Folder, Gone, Link, NoTree, Tree, above, entries_of
 from tests.drawn import draw_deed, draw_tree, generator
+from tests.plain_play import plain_may
 from tests.samples import INTERFACE_OBJECTS, NO_NUMBERS, NO_OWNERS
 
 
@@ -161,28 +162,10 @@ class MayTest(unittest.TestCase):
             folders = [number for number, node in enumerate(tree.nodes) if isinstance(node, Folder)]
             others = Others(rng.randrange(2), rng.sample(folders, rng.randint(1, len(folders))))
             deed = draw_deed(rng, tree, names="ab")
-            expected = self.allowed(tree, others, deed)
+            expected = plain_may(tree, others.owner, others.folders, deed) is not None
             self.assertIs(may(tree, others, deed), expected)
             seen[expected] += 1
         self.assertGreater(min(seen.values()), 200)
-
-    def allowed(self, tree, others, deed):
-        try:
-            after = done(tree, deed)
-        except NoDeed:
-            return False
-        if deed.folder not in others.folders or getattr(deed, "goal", deed.folder) not in others.folders:
-            return False
-        if len(after.nodes) > len(tree.nodes) and after.nodes[-1].owner != others.owner:
-            return False
-        if isinstance(deed, Put) and tree.nodes[deed.node].owner != others.owner:
-            return False
-        for number, node in enumerate(tree.nodes):
-            # Folders that stand in another folder afterwards, or are gone.
-            if isinstance(node, Folder) and number not in others.folders:
-                if isinstance(after.nodes[number], Gone) or above(after, number) != above(tree, number):
-                    return False
-        return True
 
 
 class PiecesTest(unittest.TestCase):

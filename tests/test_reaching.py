@@ -10,35 +10,12 @@ from namewalk.trees import File, Folder, Gone, Link, Tree
 from namewalk.walking import Came, Look, Refused, stands, walk
 from tests.drawn import draw_look, draw_path, draw_tree, generator, places
 from tests.plain_reach import PlainReach, Tried, told
-from tests.samples import INTERFACE_OBJECTS, NO_NUMBERS
+from tests.samples import INTERFACE_OBJECTS, NO_NUMBERS, THEIRS, sample
 
 PLAIN = Look(False, False, None)
 NEARLY = Look(True, False, None)
 ALL = Look(True, True, None)
 NEWS = ["new folder", "new file", "new link"]
-
-
-def sample():
-    """Folders 1, 2 and 6 are theirs below: 2 stands in 1, 6 in 3, which is another's in 1."""
-    return Tree([
-        Folder(0, [("a", 1), ("f", 4), ("o", 9)]),
-        Folder(1, [("b", 2), ("c", 3), ("g", 5)]),
-        Folder(2, []),
-        Folder(3, [("d", 6)]),
-        File(0),
-        File(5),
-        Folder(6, [("e", 7)]),
-        Folder(7, []),
-        Gone(8, 2),
-        Folder(9, [("h", 10), ("i", 5)]),
-        File(5),
-        Gone(5, 8),
-        File(5),
-    ])
-
-
-# The loose nodes are 2 and 5; the files 10 and 12 are theirs, too.
-THEIRS = Others(5, [1, 2, 6])
 
 
 class Checked(unittest.TestCase):
