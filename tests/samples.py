@@ -2,11 +2,14 @@
 
 from namewalk.certificates import Certificate
 from namewalk.deeds import MakeFile, MakeFolder, MakeLink, Move, Put, Take
+from namewalk.desk import Desk
+from namewalk.endings import Ending
 from namewalk.errors import NoNode, NoPath
 from namewalk.others import Others
 from namewalk.paths import Path
 from namewalk.processes import Done, Find, Made, Make, Process, Remove, Shift
 from namewalk.reaching import New
+from namewalk.session import Session
 from namewalk.trees import File, Folder, Gone, Link, Tree
 from namewalk.walking import Came, Look, Refused
 from namewalk.weavings import Outcome
@@ -18,7 +21,8 @@ INTERFACE_OBJECTS = [
     Move(0, "a", 0, "b"), Outcome(Came(1), 1, (), ()), Others(0, [0]), New("file"), Certificate(["look"]),
     Find(Path(("a",), False, False)), Make("file", Path(("a",), False, False)), Remove(Path(("a",), False, False)),
     Shift(Path(("a",), False, False), Path(("b",), False, False)), Process(0, Look(False, False, None), 0, []), Done(),
-    Made(0, 1),
+    Made(0, 1), Ending([[]], 1, True, 1), Session(Tree([Folder(0, [])]), Others(0, [])),
+    Desk(Tree([Folder(0, [])]), Others(0, [])),
 ]
 
 # Of built-in types, but neither a number nor a string.

@@ -1,17 +1,22 @@
-"""The examples of the document that need only the modules that are there."""
+"""The examples of the document."""
 
 import unittest
 
 from namewalk.climbing import climb
 from namewalk.deeds import MakeFile, Move, Take, done
+from namewalk.desk import Desk
+from namewalk.endings import endings
 from namewalk.errors import BadText, NoDeed, NoPath, NoTree
 from namewalk.guarding import guards
 from namewalk.listings import listing
 from namewalk.others import Others, arrangements, loose, pieces
 from namewalk.paths import Path, path_text, read_path
+from namewalk.processes import Find, Make, Process, Shift
 from namewalk.reaching import reach, touched
+from namewalk.session import Session
 from namewalk.trees import File, Folder, Link, Tree, above, entries_of
 from namewalk.walking import Came, Look, stands, walk
+from namewalk.walktexts import read_row, result_text, tree_text
 from namewalk.weavings import accepts, results, unexplained
 
 
@@ -62,13 +67,12 @@ class ExamplesTest(unittest.TestCase):
         self.assertEqual(caught.exception.why, 'below')
 
     def test_results(self):
-        """The document's example tells the results by their texts, which are not there yet."""
         tree = Tree([Folder(0, [('a', 1)]), Folder(0, [])])
         deeds = [Move(0, 'a', 0, 'c'), MakeFile(1, 'b', 0)]
         look = Look(False, False, None)
-        found = [(vars(one.result), one.count, one.first, one.last)
+        found = [(result_text(one.result), one.count, one.first, one.last)
                  for one in results(tree, deeds, 0, read_path('a/b'), look)]
-        self.assertEqual(found, [({'why': 'none'}, 4, (0, 0), (2,)), ({'node': 2}, 1, (0, 2), (0, 2))])
+        self.assertEqual(found, [('refused none', 4, (0, 0), (2,)), ('came 2', 1, (0, 2), (0, 2))])
 
     def test_unexplained_and_accepts(self):
         tree = Tree([Folder(0, [('a', 1)]), Folder(0, [])])
@@ -95,20 +99,54 @@ class ExamplesTest(unittest.TestCase):
         self.assertEqual(found, ([2, 3], [[0, 1], [2]], 2))
 
     def test_reach(self):
-        """The document's example tells the results by their texts, which are not there yet."""
         tree = Tree([Folder(0, [('a', 1)]), Folder(0, [('b', 2), ('c', 3)]), Folder(0, []), File(0)])
         others = Others(5, [1, 2])
         look = Look(False, False, None)
         path = read_path('a/b')
-        found = [vars(result) for result in reach(tree, others, 0, path, look)]
-        self.assertEqual(found, [{'node': 2}, {'node': 3}, {'kind': 'folder'}, {'kind': 'file'}, {'kind': 'link'},
-                                 {'why': 'none'}])
-        self.assertEqual(touched(tree, others, 0, path, look), [1])
+        found = ([result_text(result) for result in reach(tree, others, 0, path, look)],
+                 touched(tree, others, 0, path, look))
+        self.assertEqual(found, (['came 2', 'came 3', 'new folder', 'new file', 'new link', 'refused none'], [1]))
 
     def test_guards(self):
         tree = Tree([Folder(0, [('a', 1)]), Folder(0, [('b', 2), ('c', 3)]), Folder(0, []), File(0)])
         look = Look(False, False, None)
         self.assertEqual(guards(tree, Others(5, [1, 2]), 0, read_path('a/b'), look, [Came(2)]), [1])
+
+    def test_endings(self):
+        tree = Tree([Folder(0, [('a', 1)]), Folder(0, [])])
+        look = Look(False, False, None)
+        one = Process(0, look, 0, [Shift(read_path('a'), read_path('c')), Make('file', read_path('c/b'))])
+        two = Process(0, look, 0, [Find(read_path('a/b'))])
+        found = [(one.count, one.whole, one.timely) for one in endings(tree, [one, two])]
+        self.assertEqual(found, [(1, False, 0), (6, True, 6)])
+
+    def test_tree_text(self):
+        tree = Tree([Folder(0, [('a', 1), ('f', 2)]), Folder(1, [('b', 3)]), File(0), File(1)])
+        self.assertEqual(tree_text(tree), 'folder 0 a=1 f=2; folder 1 b=3; file 0; file 1')
+
+    def test_read_row(self):
+        with self.assertRaises(BadText) as caught:
+            read_row('take 1 b, move 0 a 0')
+        self.assertEqual(caught.exception.place, 1)
+
+    def test_session(self):
+        tree = Tree([Folder(0, [('a', 1), ('f', 2)]), Folder(1, [('b', 3)]), File(0), File(1)])
+        look = Look(False, False, None)
+        session = Session(tree, Others(5, [1]))
+        session.begin(0, read_path('a/b'), look)
+        self.assertEqual((session.step(), session.step().node, session.many()), (None, 3, 3))
+
+    def test_desk(self):
+        tree = Tree([Folder(0, [('a', 1), ('f', 2)]), Folder(1, [('b', 3)]), File(0), File(1)])
+        desk = Desk(tree, Others(5, [1]))
+        desk.tell('begin 0 plain a/b')
+        desk.tell('step')
+        self.assertEqual(desk.tell('can'), ['came 3', 'new folder', 'new file', 'new link', 'refused none'])
+
+    def test_desk_refuses(self):
+        tree = Tree([Folder(0, [('a', 1), ('f', 2)]), Folder(1, [('b', 3)]), File(0), File(1)])
+        desk = Desk(tree, Others(5, [1]))
+        self.assertEqual(desk.tell('take 0 f'), ['refused forbidden'])
 
 
 if __name__ == "__main__":

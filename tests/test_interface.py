@@ -4,8 +4,8 @@ import inspect
 import unittest
 
 from namewalk import (
-    certificates, climbing, deeds, errors, guarding, listings, others, paths, processes, reaching, trees, walking,
-    weavings,
+    certificates, climbing, deeds, desk, endings, errors, guarding, listings, others, paths, processes, reaching,
+    session, trees, walking, walktexts, weavings,
 )
 
 FIELDS = {
@@ -22,7 +22,8 @@ FIELDS = {
     others.Others: ["owner", "folders"], reaching.New: ["kind"], certificates.Certificate: ["parts"],
     processes.Find: ["path"], processes.Make: ["kind", "path"], processes.Remove: ["path"],
     processes.Shift: ["path", "other"], processes.Process: ["place", "look", "owner", "calls"],
-    processes.Made: ["process", "call"],
+    processes.Made: ["process", "call"], endings.Ending: ["results", "count", "whole", "timely"],
+    session.Session: ["tree", "others"], desk.Desk: ["tree", "others"],
 }
 
 WALK = ["tree", "place", "path", "look"]
@@ -40,7 +41,9 @@ FUNCTIONS = {
     others.may: ["tree", "others", "deed"], others.loose: ["tree", "others"], others.pieces: ["tree", "others"],
     others.arrangements: ["tree", "others"], reaching.reach: REACHED, reaching.touched: REACHED,
     certificates.certificate: REACHED + ["result"], certificates.holds: REACHED + ["result", "certificate"],
-    guarding.guards: REACHED + ["allowed"],
+    guarding.guards: REACHED + ["allowed"], endings.endings: ["tree", "processes"],
+    walktexts.tree_text: ["tree"], walktexts.read_tree: ["text"], walktexts.row_text: ["deeds"],
+    walktexts.read_row: ["text"], walktexts.result_text: ["result"],
 }
 
 
@@ -64,11 +67,23 @@ class InterfaceTest(unittest.TestCase):
             (listings, "listing listings"), (climbing, "climb climbs"),
             (others, "Others may loose pieces arrangements"), (reaching, "New reach touched"),
             (certificates, "Certificate certificate holds"), (guarding, "guards"),
-            (processes, "Find Make Remove Shift Process Done Made"),
+            (processes, "Find Make Remove Shift Process Done Made"), (endings, "Ending endings"),
+            (session, "Session"), (walktexts, "tree_text read_tree row_text read_row result_text"), (desk, "Desk"),
         ):
             for name in names.split():
                 with self.subTest(name):
                     self.assertEqual(getattr(module, name).__module__, module.__name__)
+
+    def test_methods_are_defined_in_their_classes(self):
+        for cls, methods in (
+            (session.Session, {"begin": ["place", "path", "look"], "step": [], "do": ["deed"], "now": [], "can": [],
+                               "history": [], "back": [], "many": []}),
+            (desk.Desk, {"tell": ["row"]}),
+        ):
+            for name, names in methods.items():
+                found = list(inspect.signature(vars(cls)[name]).parameters.values())[1:]
+                self.assertEqual([one.name for one in found], names)
+                self.assertTrue(all(one.kind == one.POSITIONAL_OR_KEYWORD for one in found))
 
     def test_fields_are_set_and_arguments_passed_by_keyword(self):
         node = trees.Folder(entries=[("f", 1)], owner=3)
@@ -144,6 +159,32 @@ class InterfaceTest(unittest.TestCase):
         self.assertEqual(found, certificates.Certificate(parts=["look", "look"]))
         self.assertIs(certificates.holds(certificate=found, result=walking.Came(2), **asked), True)
         self.assertEqual(guarding.guards(allowed=[walking.Came(2)], **asked), [1])
+
+    def test_processes_by_keyword(self):
+        path, other = paths.read_path("f"), paths.read_path("g")
+        calls = [processes.Find(path=path), processes.Make(path=path, kind="file"),
+                 processes.Shift(other=other, path=path), processes.Remove(path=other)]
+        process = processes.Process(calls=calls, owner=0, look=walking.Look(False, False, None), place=0)
+        found = endings.endings(processes=[process], tree=trees.Tree([trees.Folder(0, [])]))
+        results = [[walking.Refused("none")] + [processes.Done()] * 3]
+        self.assertEqual(found, [endings.Ending(timely=1, whole=True, count=1, results=results)])
+        self.assertNotEqual(processes.Made(call=0, process=1), processes.Made(0, 1))
+
+    def test_sessions_and_desks_by_keyword(self):
+        tree = trees.Tree([trees.Folder(0, [("d", 1)]), trees.Folder(0, [])])
+        played = session.Session(others=others.Others(3, [0, 1]), tree=tree)
+        played.begin(look=walking.Look(False, False, None), path=paths.read_path("d"), place=0)
+        played.do(deed=deeds.Take(0, "d"))
+        self.assertEqual(played.step(), walking.Refused("none"))
+        self.assertEqual(desk.Desk(others=others.Others(3, [0, 1]), tree=tree).tell(row="take 0 d"), ["done"])
+
+    def test_texts_by_keyword(self):
+        tree = trees.Tree([trees.Folder(0, [])])
+        self.assertEqual(walktexts.tree_text(tree=tree), "folder 0")
+        self.assertEqual(walktexts.read_tree(text="folder 0"), tree)
+        self.assertEqual(walktexts.row_text(deeds=[]), "nothing")
+        self.assertEqual(walktexts.read_row(text="nothing"), [])
+        self.assertEqual(walktexts.result_text(result=walking.Came(1)), "came 1")
 
 
 if __name__ == "__main__":
