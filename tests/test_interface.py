@@ -1,6 +1,8 @@
 """What the document's interface lists: names, arguments, and the file that defines each."""
 
+import ast
 import inspect
+import pathlib
 import unittest
 
 from namewalk import (
@@ -48,6 +50,15 @@ FUNCTIONS = {
 
 
 class InterfaceTest(unittest.TestCase):
+    def test_nothing_is_imported_that_knows_of_clocks_chance_or_files(self):
+        files = sorted(pathlib.Path(errors.__file__).parent.glob("*.py"))
+        self.assertGreater(len(files), 20)
+        for file in files:
+            for node in ast.walk(ast.parse(file.read_text())):
+                self.assertNotIsInstance(node, ast.Import)
+                if isinstance(node, ast.ImportFrom):
+                    self.assertTrue(node.module == "itertools" or node.module.startswith("namewalk."))
+
     def test_arguments_have_their_names_and_order(self):
         for listed, names in list(FIELDS.items()) + list(FUNCTIONS.items()):
             with self.subTest(listed.__name__):
